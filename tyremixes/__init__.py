@@ -1,0 +1,1 @@
+"""Mixes: materials bought by lots, mixed by recipes, rested, used, worked in again."""
