@@ -2,7 +2,7 @@
 
 import unittest
 
-from tests.helper import GREATEST, CallTest, ask, begun, parts, works_after
+from tests.helper import GREATEST, CallTest, all_batches, ask, batches_left, begun, lots_in, lots_left, parts
 
 
 def stocked(*calls):
@@ -14,25 +14,12 @@ def recipe(share=50, some=(1, 1), rest=0, good=10):
     return ("recipe", rest, good, share, parts(*some))
 
 
-def lots_left(calls):
-    return [lot.left for lot in works_after(calls).lots]
-
-
-def batches_left(calls):
-    return [batch.left for batch in works_after(calls).batches]
-
-
-def lots_in(calls):
-    return [batch.lots for batch in works_after(calls).batches]
-
-
 class Mix(CallTest):
     def test_numbers_rise_over_all_recipes(self):
         calls = stocked(recipe(), recipe(some=(1,)), ("mix", 0, 10), ("minutes", 3), ("mix", 1, 4), ("mix", 0, 3))
         self.assertEqual(ask(calls)[-4:], [[0], [3], [1], [2]])
         self.assertEqual(lots_left(calls), [10000 - 5 - 4 - 2, 10000 - 5 - 1])
-        kept = [(one.recipe, one.left, one.mixed) for one in works_after(calls).batches]
-        self.assertEqual(kept, [(0, 10, 0), (1, 4, 3), (0, 3, 3)])
+        self.assertEqual([told[:3] for told in all_batches(calls)], [[0, 10, 0], [1, 4, 3], [0, 3, 3]])
 
     def test_no_such_recipe(self):
         self.refused(stocked(), ("mix", 0, 1), -2)
@@ -117,8 +104,7 @@ class Rework(CallTest):
         self.assertEqual(ask(calls)[-1], [1])
         self.assertEqual(batches_left(calls), [8, 7])
         self.assertEqual(lots_left(calls), [10000 - 5 - 3, 10000 - 5 - 2])
-        self.assertEqual(works_after(calls).batches[1].mixed, 4)
-        self.assertEqual(works_after(calls).batches[1].recipe, 0)
+        self.assertEqual(all_batches(calls)[1][:3], [0, 7, 4])
 
     def test_no_such_recipe_or_batch(self):
         before = stocked(recipe(), ("mix", 0, 10))

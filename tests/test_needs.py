@@ -4,8 +4,7 @@ import random
 import unittest
 from fractions import Fraction
 
-from tests.helper import GREATEST, CallTest, ask, begun, parts
-from tyremixes.kilograms import whole_kilograms
+from tests.helper import GREATEST, MOST_CALLS, CallTest, ask, begun, parts
 
 
 def recipe_of(*some):
@@ -14,7 +13,7 @@ def recipe_of(*some):
 
 class Needs(CallTest):
     def needs(self, some, kilograms, *wanted):
-        self.answered(recipe_of(*some), ("needs", 0, kilograms), [kilograms] + parts(*wanted))
+        self.told(recipe_of(*some), ("needs", 0, kilograms), [kilograms] + parts(*wanted))
 
     def test_shares_that_come_out_even(self):
         self.needs((1, 1), 10, 5, 5)
@@ -73,17 +72,26 @@ class Needs(CallTest):
 
 
 class WholeKilograms(unittest.TestCase):
+    """Point b of what holds, over long lists of needs."""
+
     def test_they_hold_to_the_exact_shares(self):
         source = random.Random(11)
-        for turn in range(3000):
-            some = [source.choice((0, 1, 2, 3, 10, 999, 1000, source.randint(0, 1000))) for place in range(8)]
-            if sum(some) == 0:
-                continue
-            self.holds(some, source.choice((0, 1, 2, 7, 999, 1000, source.randint(0, 1000))))
+        for turn in range(20):
+            rows = [self.some_parts(source) for recipe in range(6)]
+            before = begun(8) + [("recipe", 0, 0, 0, row) for row in rows]
+            asked = [("needs", source.randrange(6), source.choice((0, 1, 2, 7, 999, 1000, source.randint(0, 1000))))
+                     for place in range(MOST_CALLS - len(before))]
+            for call, told in zip(asked, ask(before + asked)[len(before):], strict=True):
+                self.assertEqual(told[0], call[2], call)
+                self.holds(rows[call[1]], call[2], told[1:])
 
-    def holds(self, some, kilograms):
-        found = whole_kilograms(some, kilograms)
+    def some_parts(self, source):
+        some = [source.choice((0, 1, 2, 3, 10, 999, 1000, source.randint(0, 1000))) for place in range(8)]
+        return some if any(some) else parts(1)
+
+    def holds(self, some, kilograms, found):
         exact = [Fraction(kilograms * part, sum(some)) for part in some]
+        self.assertEqual(len(found), 8)
         self.assertEqual(sum(found), kilograms)
         for part, whole, share in zip(some, found, exact):
             self.assertLess(abs(whole - share), 1)
@@ -96,11 +104,6 @@ class WholeKilograms(unittest.TestCase):
                  if found[place] == share.__floor__()]
         if more and fewer:
             self.assertLess(max(more), min(fewer))
-
-    def test_the_parts_are_left_as_they_were(self):
-        some = [1, 2, 3, 0, 0, 0, 0, 0]
-        whole_kilograms(some, 10)
-        self.assertEqual(some, [1, 2, 3, 0, 0, 0, 0, 0])
 
 
 if __name__ == "__main__":

@@ -2,7 +2,7 @@
 
 import unittest
 
-from tests.helper import GREATEST, CallTest, ask, begun, parts, snapshot, works_after
+from tests.helper import GREATEST, CallTest, all_lots, ask, begun, parts
 
 
 class Material(CallTest):
@@ -16,8 +16,7 @@ class Buy(CallTest):
     def test_numbers_rise_over_all_materials(self):
         calls = [("buy", 1, 5), ("buy", 0, 7), ("buy", 1, 9)]
         self.assertEqual(ask(begun(2) + calls)[3:], [[0], [1], [2]])
-        lots = snapshot(works_after(begun(2) + calls))["lots"]
-        self.assertEqual(lots, [{"material": m, "left": n} for m, n in ((1, 5), (0, 7), (1, 9))])
+        self.assertEqual(all_lots(begun(2) + calls), [[1, 5, 5], [0, 7, 7], [1, 9, 9]])
 
     def test_no_such_material(self):
         self.refused(begun(0), ("buy", 0, 5), -2)
@@ -57,8 +56,13 @@ class Recipe(CallTest):
         self.refused(full, ("recipe", 0, 0, 0, parts(1)), -28)
 
     def test_what_it_keeps(self):
-        kept = snapshot(works_after(begun() + [("recipe", 5, 9, 30, parts(3, 4))]))["recipes"]
-        self.assertEqual(kept, [{"rest": 5, "good": 9, "share": 30, "parts": [3, 4, 0, 0, 0, 0, 0, 0]}])
+        """Rest, good, hundredths and parts, each by a call that goes by it."""
+        before = begun() + [("recipe", 5, 9, 30, parts(3, 4)), ("buy", 0, 90), ("buy", 1, 90), ("mix", 0, 70)]
+        self.answered(before, ("needs", 0, 7), [7] + parts(3, 4))
+        self.answered(before, ("rework", 0, 10, 0, 3), [1])
+        self.refused(before, ("rework", 0, 10, 0, 4), -75)
+        for minutes, phase in ((4, 0), (5, 1), (9, 1), (10, 2)):
+            self.answered(before + [("minutes", minutes)], ("look", 0), [0, 70, 0, phase])
 
     def test_rest(self):
         self.answered(begun(), ("recipe", 0, 100000, 0, parts(1)), [0])

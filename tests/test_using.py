@@ -2,17 +2,7 @@
 
 import unittest
 
-from tests.helper import GREATEST, CallTest, ask, begun, parts, works_after
-
-
-def mixed(*amounts, rest=5, good=10):
-    """One material, recipes 0 and 1 alike, and batches of recipe 0 of these kilograms."""
-    same = ("recipe", rest, good, 100, parts(1))
-    return begun(1) + [("buy", 0, 10000), same, same] + [("mix", 0, amount) for amount in amounts]
-
-
-def later(calls, minutes):
-    return calls + [("minutes", minutes)]
+from tests.helper import GREATEST, CallTest, ask, batches_left, begun, later, mixed
 
 
 class Use(CallTest):
@@ -88,7 +78,7 @@ class Draw(CallTest):
     def test_what_is_drawn_is_gone(self):
         calls = later(mixed(10, 20), 5) + [("draw", 0, 14), ("draw", 0, 16), ("draw", 0, 1)]
         self.assertEqual(ask(calls)[-3:], [[2, 0, 10, 1, 4], [1, 1, 16], [-12]])
-        self.assertEqual([batch.left for batch in works_after(calls).batches], [0, 0])
+        self.assertEqual(batches_left(calls), [0, 0])
 
     def test_a_ripe_batch_with_nothing_in_it(self):
         calls = later(mixed(10, 20, 30), 5) + [("use", 0, 10), ("use", 2, 30)]
@@ -150,7 +140,7 @@ class Scrap(CallTest):
     def test_tells_how_much_was_scrapped(self):
         calls = later(mixed(10, 20), 5) + [("use", 1, 3), ("minutes", 6), ("scrap", 1), ("scrap", 0)]
         self.assertEqual(ask(calls)[-2:], [[17], [10]])
-        self.assertEqual([batch.left for batch in works_after(calls).batches], [0, 0])
+        self.assertEqual(batches_left(calls), [0, 0])
 
     def test_no_such_batch(self):
         self.refused(begun(), ("scrap", 0), -2)

@@ -1,10 +1,11 @@
-"""Batches as they are mixed, with what is worked in again, and what they need."""
+"""Batches as they are mixed, with what is worked in again; what they need, and how much could be mixed."""
 
 from tyremixes.kilograms import whole_kilograms
 from tyremixes.records import Batch, no_batch, no_recipe
 from tyremixes.refusals import (
-    HAS_LESS, MORE_THAN_MAY_BE, NONE_SUCH, NOT_SO, OUT_OF_RANGE, TOO_LITTLE, TOO_MANY,
+    MORE_THAN_MAY_BE, NONE_OR_LESS, NONE_SUCH, NOT_SO, OUT_OF_RANGE, TOO_LITTLE, TOO_MANY,
 )
+from tyremixes.supply import MOST_MATERIALS
 
 MOST_BATCHES = 40
 MOST_MIXED = 1000
@@ -15,9 +16,13 @@ def in_stock(works, material):
     return sum([lot.left for lot in works.lots if lot.material == material])
 
 
-def is_enough(works, needed):
-    for material, kilograms in enumerate(needed):
-        if in_stock(works, material) < kilograms:
+def all_stock(works):
+    return [in_stock(works, material) for material in range(MOST_MATERIALS)]
+
+
+def is_enough(stock, needed):
+    for there_is, kilograms in zip(stock, needed):
+        if there_is < kilograms:
             return False
     return True
 
@@ -43,7 +48,7 @@ def mix_batch(works, recipe, kilograms):
     if len(works.batches) >= MOST_BATCHES:
         return [TOO_MANY]
     needed = whole_kilograms(works.recipes[recipe].parts, kilograms)
-    if not is_enough(works, needed):
+    if not is_enough(all_stock(works), needed):
         return [TOO_LITTLE]
     lots = take_from_lots(works, needed)
     works.batches.append(Batch(recipe, kilograms, works.minute, lots))
@@ -60,14 +65,14 @@ def rework_batch(works, recipe, kilograms, batch, again):
     if earlier.recipe != recipe:
         return [NOT_SO]
     if earlier.left < again:
-        return [HAS_LESS]
+        return [NONE_OR_LESS]
     # Both sides times a hundred: nothing is rounded, so hundredths that just do are not refused.
     if again * 100 > works.recipes[recipe].share * kilograms:
         return [MORE_THAN_MAY_BE]
     if len(works.batches) >= MOST_BATCHES:
         return [TOO_MANY]
     needed = whole_kilograms(works.recipes[recipe].parts, kilograms - again)
-    if not is_enough(works, needed):
+    if not is_enough(all_stock(works), needed):
         return [TOO_LITTLE]
     taken = take_from_lots(works, needed)
     earlier.left -= again
@@ -82,3 +87,25 @@ def tell_needs(works, recipe, kilograms):
     if kilograms > MOST_MIXED:
         return [OUT_OF_RANGE]
     return [kilograms] + whole_kilograms(works.recipes[recipe].parts, kilograms)
+
+
+def highest_to_try(stock, parts):
+    """The greatest mix for which no share, rounded down, is more than there is of its material."""
+    all_parts = sum(parts)
+    highest = MOST_MIXED
+    for there_is, part in zip(stock, parts):
+        if part > 0:
+            highest = min(highest, ((there_is + 1) * all_parts - 1) // part)
+    return highest
+
+
+def tell_most(works, recipe):
+    if no_recipe(works, recipe):
+        return [NONE_SUCH]
+    parts = works.recipes[recipe].parts
+    stock = all_stock(works)
+    kilograms = highest_to_try(stock, parts)
+    # One by one: a mix may need what it lacks where both a greater and a lesser one do not.
+    while not is_enough(stock, whole_kilograms(parts, kilograms)):
+        kilograms -= 1
+    return [kilograms]

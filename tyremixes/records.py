@@ -1,4 +1,4 @@
-"""What a works keeps: its lots, recipes and batches, and which minute it is."""
+"""What a works keeps: its lots, recipes and batches, what is gone of them, and which minute it is."""
 
 
 class Lot:
@@ -6,6 +6,7 @@ class Lot:
 
     def __init__(self, material, kilograms):
         self.material = material
+        self.bought = kilograms
         self.left = kilograms
 
 
@@ -38,6 +39,16 @@ class Works:
         self.lots = []
         self.recipes = []
         self.batches = []
+        self.used = 0
+        self.scrapped = 0
+
+
+def no_material(works, number):
+    return number >= works.materials
+
+
+def no_lot(works, number):
+    return number >= len(works.lots)
 
 
 def no_recipe(works, number):

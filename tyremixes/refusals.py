@@ -1,7 +1,7 @@
 """The numbers that are answered where a call is refused."""
 
 NONE_SUCH = -2
-HAS_LESS = -6
+NONE_OR_LESS = -6
 NOT_BEGUN = -11
 TOO_LITTLE = -12
 MUST_REST = -13

@@ -1,6 +1,6 @@
 """Materials, lots and recipes as they come, and the minutes that go by."""
 
-from tyremixes.records import Lot, Recipe
+from tyremixes.records import Lot, Recipe, no_material
 from tyremixes.refusals import NONE_SUCH, OUT_OF_RANGE, TOO_MANY
 
 MOST_MATERIALS = 8
@@ -22,7 +22,7 @@ def add_material(works):
 
 
 def buy_lot(works, material, kilograms):
-    if material >= works.materials:
+    if no_material(works, material):
         return [NONE_SUCH]
     if kilograms < 1 or kilograms > MOST_BOUGHT:
         return [OUT_OF_RANGE]
